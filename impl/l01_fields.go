@@ -305,10 +305,16 @@ func TakeSeeds(f Field, cell, most int64) (Field, int64, int64) {
 	if most < 0 {
 		return Field{}, 0, codeOf(errRange)
 	}
+	left, taken := takeFrom(f, cell, most)
+	return left, taken, OK
+}
+
+// takeFrom is TakeSeeds for arguments that are known to be in order.
+func takeFrom(f Field, cell, most int64) (Field, int64) {
 	s := spotAt(f, cell)
 	taken := min(most, int64(s.seeds))
 	s.seeds -= int16(taken)
-	return withSpot(f, cell, s), taken, OK
+	return withSpot(f, cell, s), taken
 }
 
 // SeedsIn returns the sum of all seeds.
