@@ -156,3 +156,21 @@ func brokenFields() map[string]impl.Field {
 	}
 	return broken
 }
+
+// checkTwice makes a call with a code as its last result twice: results are equal, and zero values beside an error.
+func checkTwice(t *testing.T, name string, args any, run func() []any) {
+	t.Helper()
+	first, second := run(), run()
+	if !reflect.DeepEqual(first, second) {
+		t.Fatalf("%s %v: once %v, and then %v", name, args, first, second)
+	}
+	last := len(first) - 1
+	if code := first[last]; code == int64(impl.OK) {
+		return
+	}
+	for _, result := range first[:last] {
+		if !isNothing(result) {
+			t.Fatalf("%s %v: %v beside the code %v", name, args, result, first[last])
+		}
+	}
+}

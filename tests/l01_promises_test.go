@@ -65,26 +65,10 @@ func TestP1CallsReturn(t *testing.T) {
 		for _, f := range fields {
 			for i, a := range farNumbers {
 				for j, b := range farNumbers {
-					checkCall(t, call, f, a, b, sets[(i+j)%len(sets)])
+					set := sets[(i+j)%len(sets)]
+					checkTwice(t, call.name, [2]int64{a, b}, func() []any { return call.run(f, a, b, set) })
 				}
 			}
-		}
-	}
-}
-
-func checkCall(t *testing.T, call fieldCall, f impl.Field, a, b int64, c impl.Cells) {
-	t.Helper()
-	first, second := call.run(f, a, b, c), call.run(f, a, b, c)
-	if !reflect.DeepEqual(first, second) {
-		t.Fatalf("%s %d %d: once %v, and then %v", call.name, a, b, first, second)
-	}
-	last := len(first) - 1
-	if code := first[last]; code == int64(impl.OK) {
-		return
-	}
-	for _, result := range first[:last] {
-		if !isNothing(result) {
-			t.Fatalf("%s %d %d: %v beside the code %v", call.name, a, b, result, first[last])
 		}
 	}
 }

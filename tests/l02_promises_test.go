@@ -107,26 +107,9 @@ func TestP1BirdCallsReturn(t *testing.T) {
 		for _, x := range someBirdArgs(t) {
 			for _, x.a = range numbers {
 				for _, x.b = range numbers {
-					checkBirdCall(t, call, x)
+					checkTwice(t, call.name, x, func() []any { return call.run(x) })
 				}
 			}
-		}
-	}
-}
-
-func checkBirdCall(t *testing.T, call birdCall, x birdArgs) {
-	t.Helper()
-	first, second := call.run(x), call.run(x)
-	if !reflect.DeepEqual(first, second) {
-		t.Fatalf("%s %v: once %v, and then %v", call.name, x, first, second)
-	}
-	last := len(first) - 1
-	if code := first[last]; code == int64(impl.OK) {
-		return
-	}
-	for _, result := range first[:last] {
-		if !isNothing(result) {
-			t.Fatalf("%s %v: %v beside the code %v", call.name, x, result, first[last])
 		}
 	}
 }
