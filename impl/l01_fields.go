@@ -441,10 +441,15 @@ func RingOf(f Field, cell, square int64) (Cells, int64) {
 	return cellsWhere(f, func(other int64) bool { return squareBetween(cell, other) <= square }), OK
 }
 
+// inField returns the numbers of a set that are cells of a field.
+func inField(f Field, set Cells) Cells {
+	return cellsWhere(f, func(cell int64) bool { return HasCell(set, cell) })
+}
+
 // bestIn returns the cell of a field, in a set, with the greatest worth, the
 // least number of several.
 func bestIn(f Field, set Cells, worth func(cell int64) int64) (int64, error) {
-	inside := cellsWhere(f, func(cell int64) bool { return HasCell(set, cell) })
+	inside := inField(f, set)
 	if inside == (Cells{}) {
 		return 0, errNotFound
 	}
@@ -486,6 +491,11 @@ func NeighboursOf(f Field, cell int64) ([]int64, int64) {
 	if err := checkCells(f, cell); err != nil {
 		return nil, codeOf(err)
 	}
+	return neighboursOf(f, cell), OK
+}
+
+// neighboursOf is NeighboursOf for arguments that are known to be in order.
+func neighboursOf(f Field, cell int64) []int64 {
 	x, y := placeOf(cell)
 	var list []int64
 	for _, place := range [4][2]int64{{x, y - 1}, {x - 1, y}, {x + 1, y}, {x, y + 1}} {
@@ -493,7 +503,7 @@ func NeighboursOf(f Field, cell int64) ([]int64, int64) {
 			list = append(list, cellAt(place[0], place[1]))
 		}
 	}
-	return list, OK
+	return list
 }
 
 // rearranged returns a field with the given sides. What comes to the place x, y
