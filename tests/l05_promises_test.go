@@ -264,6 +264,12 @@ func TestP1WatchersAreJoined(t *testing.T) {
 		watchers, code := impl.WatchersFor(f, b, 1, setOf(0, 1, 2, 3, 13, 20), 2)
 		want(t, "WatchersFor", [2]int64{watchers, code}, [2]int64{4, impl.OK})
 	}
+	wantJoined(t, before)
+}
+
+// wantJoined expects that no more goroutines are left than there were before.
+func wantJoined(t *testing.T, before int) {
+	t.Helper()
 	for range 100000 {
 		if runtime.NumGoroutine() <= before {
 			return
